@@ -1,0 +1,1 @@
+"""Houses that are tied choose a full apart set of themselves by rounds."""
