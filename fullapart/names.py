@@ -21,12 +21,17 @@ def lesser_neighbours(web, names):
     return lesser
 
 
+def latest_of(rows):
+    """Tell the last round of these rows."""
+    return max([number for _, number in rows], default=0)
+
+
 def row_by(rows):
     """Tell the row of a house by the rows of its neighbours of lesser names."""
     chosen_in = [number for chosen, number in rows if chosen]
     if chosen_in:
         return (False, min(chosen_in))
-    return (True, 1 + max([number for _, number in rows], default=0))
+    return (True, 1 + latest_of(rows))
 
 
 def is_row(row):
@@ -35,16 +40,22 @@ def is_row(row):
     return len(row) == 2 and isinstance(row[0], bool) and is_whole(row[1])
 
 
+def rows_along(near, order):
+    """Tell the row of each house, going through the houses by rising names."""
+    rows = [None] * len(near)
+    # Each house comes behind those that its row hangs on, so one going through
+    # serves for all rounds.
+    for house in order:
+        ahead = [rows[other] for other in near[house]]
+        rows[house] = row_by([row for row in ahead if row is not None])
+    return rows
+
+
 def rounds_by(web, names):
     """Tell for each house whether it is chosen and in which round it is decided."""
     refuse_alike(names)
-    lesser = lesser_neighbours(web, names)
-    rows = [None] * web[0]
-    # By rising names each house comes behind those that its row hangs on, so
-    # one going through serves for all rounds.
-    for house in sorted(range(web[0]), key=lambda at: names[at]):
-        rows[house] = row_by([rows[other] for other in lesser[house]])
-    return rows
+    by_names = sorted([(names[house], house) for house in range(web[0])])
+    return rows_along(neighbours(web), [house for _, house in by_names])
 
 
 def chosen_by(web, names):
@@ -56,7 +67,7 @@ def chosen_by(web, names):
 
 def latest_by(web, names):
     """Tell how many rounds there are."""
-    return max([number for _, number in rounds_by(web, names)], default=0)
+    return latest_of(rounds_by(web, names))
 
 
 def is_rounds(web, names, rows):

@@ -49,10 +49,15 @@ def neighbours(web):
     return near
 
 
-def tied_to(web, house):
-    """Tell the houses that a house is tied to, rising."""
+def refuse_no_house(web, house):
+    """Refuse a number that no house of the web has."""
     if not is_whole(house) or not 0 <= house < web[0]:
         raise NoHouse("no house of the web has this number")
+
+
+def tied_to(web, house):
+    """Tell the houses that a house is tied to, rising."""
+    refuse_no_house(web, house)
     return neighbours(web)[house]
 
 

@@ -4,7 +4,10 @@ The second ways go through the points of the document as they stand there,
 slowly, and share nothing with the program.
 """
 
-from itertools import combinations
+from fractions import Fraction
+from functools import lru_cache
+from itertools import combinations, permutations, product
+from math import gcd
 
 
 class Dice:
@@ -76,6 +79,16 @@ def many_webs():
             webs.append(ring_web(many))
         webs += [any_web(many, dice, of_ten) for of_ten in (1, 3, 7)]
     return webs
+
+
+def forms(many):
+    """Webs of so many houses, of all the forms, each once."""
+    dice = Dice(11)
+    webs = [bare_web(many), row_web(many), star_web(many), all_tied_web(many)]
+    if many >= 3:
+        webs.append(ring_web(many))
+    webs += [any_web(many, dice, of_ten) for of_ten in (2, 5, 8)]
+    return list(dict.fromkeys(webs))
 
 
 # Names
@@ -183,3 +196,148 @@ def first_alike(names):
         if name in names[:house]:
             return house
     return None
+
+
+def round_by_draws(web, left, numbers):
+    """One round: those chosen, those out, those left behind it."""
+    others = near(web)
+    chosen = [
+        house for house in left
+        if not any(other in left and numbers[other] <= numbers[house] for other in others[house])
+    ]
+    out = [
+        house for house in left
+        if house not in chosen and any(other in chosen for other in others[house])
+    ]
+    return chosen, out, [house for house in left if house not in chosen and house not in out]
+
+
+def run_by_draws(web, draws):
+    """Go through the rounds of draws, one by one."""
+    left = list(range(web[0]))
+    rounds = []
+    at = 0
+    while left and at < len(draws):
+        chosen, out, left = round_by_draws(web, left, draws[at])
+        rounds.append((chosen, out))
+        at += 1
+    return rounds, left
+
+
+def runs_of_all_draws(web, most):
+    """All that is told of a web by any draws of at most so many rounds."""
+    found = {((), tuple(range(web[0])))}
+    last = found
+    for _ in range(most):
+        further = set()
+        for rounds, left in last:
+            # As many numbers as houses are enough for all ways to be less or alike.
+            for numbers in product(range(web[0]), repeat=web[0] if left else 0):
+                if left:
+                    chosen, out, rest = round_by_draws(web, list(left), numbers)
+                    further.add((rounds + ((tuple(chosen), tuple(out)),), tuple(rest)))
+        last = further
+        found = found | further
+    return found
+
+
+def right_run(web, rounds, left):
+    """Hold a run against point 9, word by word."""
+    pairs = set(web[1])
+    others = near(web)
+    here = list(range(web[0]))
+    for chosen, out in rounds:
+        if not here or any(house not in here for house in chosen):
+            return False
+        if any((one, other) in pairs for one in chosen for other in chosen):
+            return False
+        for house in here:
+            if not any(other in here for other in others[house]) and house not in chosen:
+                return False
+        wanted = [house for house in here if any(other in chosen for other in others[house])]
+        if out != wanted:
+            return False
+        here = [house for house in here if house not in chosen and house not in out]
+    return here == left
+
+
+def is_fraction(thing):
+    """Whether a thing is a fraction as point 2 says it, of just these kinds."""
+    if type(thing) is not tuple or [type(part) for part in thing] != [int, int]:
+        return False
+    return thing[1] >= 1 and gcd(*thing) == 1
+
+
+def pair_of(number):
+    """A Fraction as the program tells it."""
+    return (number.numerator, number.denominator)
+
+
+@lru_cache(maxsize=None)
+def chances_from(web, sides, here):
+    """The chance of each set behind a round, going through all rows of draws."""
+    counts = {}
+    for drawn in product(range(sides), repeat=len(here)):
+        _, _, left = round_by_draws(web, list(here), dict(zip(here, drawn)))
+        counts[tuple(left)] = counts.get(tuple(left), 0) + 1
+    return {there: Fraction(count, sides ** len(here)) for there, count in counts.items()}
+
+
+def sets_that_may_be_left(web, sides):
+    found = {(), tuple(range(web[0]))}
+    while True:
+        more = {there for here in found for there in chances_from(web, sides, here)} - found
+        if not more:
+            return sorted(found)
+        found |= more
+
+
+def chances_behind(web, sides, most):
+    """The chance that none is left behind 0, 1, .. rounds, one after the other."""
+    now = {tuple(range(web[0])): Fraction(1)}
+    out = [now.get((), Fraction(0))]
+    for _ in range(most):
+        behind = {}
+        for here, chance in now.items():
+            for there, more in chances_from(web, sides, here).items():
+                behind[there] = behind.get(there, 0) + chance * more
+        now = behind
+        out.append(now.get((), Fraction(0)))
+    return out
+
+
+def means_of_all_sets(web, sides, wrong=None):
+    """The mean from each set of houses on, lesser sets ahead; wrong is a set whose mean is off."""
+    means = {(): Fraction(0)}
+    for here in all_sets(range(web[0]), tuple)[1:]:
+        chances = chances_from(web, sides, here)
+        on = sum(chance * means[there] for there, chance in chances.items() if there != here)
+        means[here] = (1 + on) / (1 - chances.get(here, 0))
+        if here == wrong:
+            means[here] += Fraction(1, 3)
+    return means
+
+
+def right_table(web, sides, rows):
+    """Hold a table of means against point 12, word by word."""
+    means = {left: Fraction(*mean) for left, mean in rows}
+    if tuple(range(web[0])) not in means or () not in means or means[()] != 0:
+        return False
+    for left, mean in means.items():
+        if left:
+            chances = chances_from(web, sides, left)
+            if any(there not in means for there in chances):
+                return False
+            if mean != 1 + sum(chance * means[there] for there, chance in chances.items()):
+                return False
+    return True
+
+
+@lru_cache(maxsize=None)
+def rows_over_all_orders(web):
+    """For each order of names, going through the rounds, the rows of the houses."""
+    return [rounds_by_names(web, list(names)) for names in permutations(range(web[0]))]
+
+
+def mean_over(numbers):
+    return pair_of(Fraction(sum(numbers), len(numbers)))
