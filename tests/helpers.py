@@ -4,6 +4,7 @@ The second ways go through the points of the document as they stand there,
 slowly, and share nothing with the program.
 """
 
+import re
 from fractions import Fraction
 from functools import lru_cache
 from itertools import combinations, permutations, product
@@ -341,3 +342,258 @@ def rows_over_all_orders(web):
 
 def mean_over(numbers):
     return pair_of(Fraction(sum(numbers), len(numbers)))
+
+
+# Pairings and hues
+
+def touch(tie, other):
+    return bool(set(tie) & set(other))
+
+
+def ties_as_houses(web):
+    """The web of ties, by each two ties."""
+    pairs = combinations(range(len(web[1])), 2)
+    return (len(web[1]), tuple(pair for pair in pairs if touch(*[web[1][at] for at in pair])))
+
+
+def pairing(some):
+    return not any(touch(one, other) for one, other in combinations(some, 2))
+
+
+def full_pairing(web, some):
+    return pairing(some) and all(any(touch(tie, one) for one in some) for tie in web[1])
+
+
+def pairing_by_names(web, names):
+    """Go through the ties by rising names."""
+    picked = []
+    for _, tie in sorted(zip(names, web[1])):
+        if not any(touch(tie, other) for other in picked):
+            picked.append(tie)
+    return sorted(picked)
+
+
+def house_and_hue(web, hues):
+    """The web of house and hue, by each two houses of it."""
+    pairs = set(web[1])
+
+    def tied(one, other):
+        (house, hue), (far, last) = divmod(one, hues), divmod(other, hues)
+        return house == far or ((house, far) in pairs and hue == last)
+
+    many = web[0] * hues
+    return (many, tuple(pair for pair in combinations(range(many), 2) if tied(*pair)))
+
+
+def hues_by_names(web, hues, names):
+    """Go through houses and hues by rising names: a house takes the first hue that it may."""
+    others = near(web)
+    told = [None] * web[0]
+    for _, at in sorted(zip(names, range(len(names)))):
+        house, hue = at // hues, at - at // hues * hues
+        if told[house] is None and all(told[other] != hue for other in others[house]):
+            told[house] = hue
+    return told
+
+
+# Villages
+
+class Refused(Exception):
+    """What the plain village refuses with: the name of the class, and NoName's number."""
+
+    def __init__(self, kind, number=None):
+        super().__init__(kind)
+        self.kind = kind
+        self.number = number
+
+
+class PlainVillage:
+    """Points 17 to 19, word by word: one list of all that is under way, all else gone through."""
+
+    def __init__(self):
+        self.name_of = {}
+        self.tied = set()
+        self.kept = {}
+        self.letters = []
+        self.came = 0
+        self.told = 0
+
+    def stand(self, *houses):
+        for house in houses:
+            if house not in self.name_of:
+                raise Refused("NoHouse")
+
+    def stand_tied(self, one, other):
+        self.stand(one, other)
+        if frozenset((one, other)) not in self.tied:
+            raise Refused("NoTie")
+
+    def now_chosen(self, house):
+        return not any(truth for (keeper, _), truth in self.kept.items() if keeper == house)
+
+    def send(self, one, other):
+        self.letters.append((one, other, self.now_chosen(one)))
+        self.told += 1
+
+    def all_chosen(self):
+        return {house: self.now_chosen(house) for house in self.name_of}
+
+    def tell_turned(self, before):
+        now = self.all_chosen()
+        for house in sorted(now):
+            if house in before and before[house] != now[house]:
+                for other in sorted(self.name_of):
+                    tied = frozenset((house, other)) in self.tied
+                    if tied and self.name_of[other] > self.name_of[house]:
+                        self.send(house, other)
+
+    def undo(self, pair):
+        self.tied.discard(pair)
+        self.letters = [row for row in self.letters if frozenset(row[:2]) != pair]
+        self.kept = {way: self.kept[way] for way in self.kept if frozenset(way) != pair}
+
+    def come(self, name):
+        for house, other in self.name_of.items():
+            if other == name:
+                raise Refused("NoName", house)
+        self.name_of[self.came] = name
+        self.came += 1
+        return self.came - 1
+
+    def fall(self, house):
+        self.stand(house)
+        before = self.all_chosen()
+        for pair in [pair for pair in self.tied if house in pair]:
+            self.undo(pair)
+        del self.name_of[house]
+        self.tell_turned(before)
+
+    def tie(self, one, other):
+        self.stand(one, other)
+        if one == other or frozenset((one, other)) in self.tied:
+            raise Refused("NoTie")
+        self.tied.add(frozenset((one, other)))
+        lesser, greater = sorted((one, other), key=self.name_of.get)
+        self.kept[greater, lesser] = False
+        if self.now_chosen(lesser):
+            self.send(lesser, greater)
+
+    def untie(self, one, other):
+        self.stand_tied(one, other)
+        before = self.all_chosen()
+        self.undo(frozenset((one, other)))
+        self.tell_turned(before)
+
+    def step(self, one, other):
+        self.stand_tied(one, other)
+        for at, (here, there, truth) in enumerate(self.letters):
+            if (here, there) == (one, other):
+                before = self.all_chosen()
+                del self.letters[at]
+                self.kept[other, one] = truth
+                self.tell_turned(before)
+                return truth
+        raise Refused("NoStep")
+
+    def houses(self):
+        return sorted(self.name_of.items())
+
+    def ties(self):
+        return sorted(tuple(sorted(pair)) for pair in self.tied)
+
+    def is_chosen(self, house):
+        self.stand(house)
+        return self.now_chosen(house)
+
+    def chosen(self):
+        return sorted(house for house in self.name_of if self.now_chosen(house))
+
+    def under_way(self, one, other):
+        self.stand_tied(one, other)
+        return [truth for here, there, truth in self.letters if (here, there) == (one, other)]
+
+    def waiting(self):
+        return sorted({(one, other) for one, other, _ in self.letters})
+
+    def count(self):
+        return self.told
+
+
+def set_of_village(village):
+    """The set by names of the houses and ties that a village tells."""
+    name_of = dict(village.houses())
+    ties = village.ties()
+    picked = set()
+    for house in sorted(name_of, key=name_of.get):
+        others = {one + other - house for one, other in ties if house in (one, other)}
+        if not others & picked:
+            picked.add(house)
+    return sorted(picked)
+
+
+# Texts
+
+SIGNS = [chr(code) for code in range(32, 127) if chr(code) != "%"] + ["\n"]
+NUMBER = "(?:0|[1-9][0-9]{0,59})"
+
+
+def rises(things):
+    return list(things) == sorted(set(things))
+
+
+def written_web(text):
+    """The web that a text writes, or None."""
+    if not re.fullmatch(f"{NUMBER}(?: {NUMBER}-{NUMBER})*", text):
+        return None
+    many, *words = text.split(" ")
+    ties = tuple(tuple(int(part) for part in word.split("-")) for word in words)
+    if not 1 <= int(many) <= 60 or not rises(ties):
+        return None
+    if any(not one < other < int(many) for one, other in ties):
+        return None
+    return (int(many), ties)
+
+
+def written_set(text):
+    """The rising list that a text writes, or None."""
+    if text == "none":
+        return []
+    if not re.fullmatch(f"{NUMBER}(?: {NUMBER})*", text):
+        return None
+    some = [int(word) for word in text.split(" ")]
+    return some if rises(some) else None
+
+
+def written_fraction(text):
+    """The fraction that a text writes, or None."""
+    if re.fullmatch(NUMBER, text):
+        return (int(text), 1)
+    if not re.fullmatch(f"{NUMBER}/{NUMBER}", text):
+        return None
+    over, under = (int(part) for part in text.split("/"))
+    return (over, under) if under >= 2 and gcd(over, under) == 1 else None
+
+
+def bent(text, signs):
+    """The text with a sign put in, exchanged or left out at any place, or two exchanged."""
+    for at in range(len(text) + 1):
+        for sign in signs:
+            yield text[:at] + sign + text[at:]
+            yield text[:at] + sign + text[at + 1:]
+        yield text[:at] + text[at + 1:]
+        yield text[:at] + text[at + 1:at + 2] + text[at:at + 1] + text[at + 2:]
+
+
+def parts_bent(text):
+    """The text with a part left out, twice, or two exchanged; with blanks ahead, behind, twice."""
+    words = text.split(" ")
+    for at in range(len(words)):
+        yield " ".join(words[:at] + words[at + 1:])
+        yield " ".join(words[:at] + words[at:at + 1] + words[at:])
+        yield " ".join(words[:at] + [""] + words[at:])
+        for to in range(at):
+            turned = list(words)
+            turned[at], turned[to] = turned[to], turned[at]
+            yield " ".join(turned)
+    yield text + " "
+    yield ""
